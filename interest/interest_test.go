@@ -239,15 +239,19 @@ func TestSpanRefused(t *testing.T) {
 	}
 }
 
-// monthly is a month's interest, the nearer of the two whole numbers about it, in numbers without an end.
-func monthly(balance, rate int64) int64 {
-	n := new(big.Int).Mul(big.NewInt(balance), big.NewInt(rate))
+// earns is a month's interest, the nearer of the two whole numbers about it, in numbers without an end.
+func earns(balance *big.Int, rate int64) *big.Int {
+	n := new(big.Int).Mul(balance, big.NewInt(rate))
 	cents, rest := n.DivMod(n, big.NewInt(api.MonthDen), new(big.Int))
 	twice := 2 * rest.Int64()
 	if twice > api.MonthDen || twice == api.MonthDen && cents.Bit(0) == 1 {
 		cents.Add(cents, big.NewInt(1))
 	}
-	return cents.Int64()
+	return cents
+}
+
+func monthly(balance, rate int64) int64 {
+	return earns(big.NewInt(balance), rate).Int64()
 }
 
 // 3.3: months at the ends of both ranges and drawn ones; never above the balance.

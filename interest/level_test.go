@@ -14,13 +14,7 @@ import (
 func clears(principal, rate int64, count int, payment *big.Int) bool {
 	balance := big.NewInt(principal)
 	for range count {
-		n := new(big.Int).Mul(balance, big.NewInt(rate))
-		earned, rest := n.DivMod(n, big.NewInt(api.MonthDen), new(big.Int))
-		twice := 2 * rest.Int64()
-		if twice > api.MonthDen || twice == api.MonthDen && earned.Bit(0) == 1 {
-			earned.Add(earned, big.NewInt(1))
-		}
-		balance.Add(balance, earned)
+		balance.Add(balance, earns(balance, rate))
 		if balance.Cmp(payment) <= 0 {
 			return true
 		}
