@@ -110,8 +110,7 @@ func (e *Engine) askAging(api.Op) ([]int64, api.Errno) {
 
 // askNotices tells how many notices there are, and how many are acknowledged.
 func (e *Engine) askNotices(api.Op) ([]int64, api.Errno) {
-	all, owed := len(e.notices), len(e.Unacknowledged())
-	return []int64{int64(all), int64(all - owed)}, api.OK
+	return []int64{int64(len(e.notices)), int64(e.marked)}, api.OK
 }
 
 // askTimers tells the timers that wait.
